@@ -8,30 +8,13 @@ import inspect
 import itertools
 import unittest
 
+from reckoned import DEPTHS, LONGEST, WRONG_DEPTHS, top_by_hand
 from topslip.errors import BadDepth, BadKey, BadNumber
 from topslip.tops import rows_of, top_of
-
-DEPTHS = range(9)
-WRONG_DEPTHS = (-1, -2, 9, 10, 64, 1000, 10**99, -(10**99))
-LONGEST = 10**100_000 - 1
 
 
 def full_rows(depth, value=0):
     return [(key, value + key) for key in range(2**depth)]
-
-
-def top_from_halves(depth, rows):
-    """The top by another way: from above, halving the tree, not level by level from below."""
-    values = dict(rows)
-
-    def number_of(first, count):
-        if count == 1:
-            return values[first] + 1 if first in values else 0
-        left = number_of(first, count // 2)
-        right = number_of(first + count // 2, count // 2)
-        return (left + right) * (left + right + 1) // 2 + right
-
-    return number_of(0, 2**depth)
 
 
 class Interface(unittest.TestCase):
@@ -108,7 +91,7 @@ class Rows(unittest.TestCase):
             with self.subTest(depth=depth):
                 rows = full_rows(depth)
                 top = top_of(depth, rows)
-                self.assertTrue(top == top_from_halves(depth, rows))
+                self.assertTrue(top == top_by_hand(depth, rows))
                 self.assertTrue(top == top_of(depth, rows[::-1]))
                 self.assertTrue(rows_of(depth, top) == rows)
 
@@ -205,7 +188,7 @@ class Tops(unittest.TestCase):
         for depth in DEPTHS:
             for step in (1, 2, 3, 5, 7):
                 rows = [(key, key * key % 11) for key in range(0, 2**depth, step)]
-                self.assertTrue(top_of(depth, rows) == top_from_halves(depth, rows))
+                self.assertTrue(top_of(depth, rows) == top_by_hand(depth, rows))
 
 
 class JustOneSetOfRows(unittest.TestCase):
@@ -262,7 +245,7 @@ class SizesAndNothingChanged(unittest.TestCase):
         for value in (10**99, 10**100 - 300, 10**120):
             rows = full_rows(8, value)
             top = top_of(8, rows)
-            self.assertTrue(top == top_from_halves(8, rows))
+            self.assertTrue(top == top_by_hand(8, rows))
             self.assertTrue(rows_of(8, top) == rows)
 
     def test_tops_of_a_hundred_thousand_figures(self):
