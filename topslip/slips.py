@@ -43,7 +43,7 @@ def leads_to(top, key, value, slip):
     for beside in slip:
         # A pair's number is never less than either part, so what is above the top stays above it.
         # To stop there keeps the numbers short: with each pair their figures are twice as many.
-        if number > top:
+        if number > top or beside > top:
             return False
         number = pair_at(place, number, beside)
         place = place // 2
